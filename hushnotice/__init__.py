@@ -1,0 +1,1 @@
+"""Hushnotice: notices that reach each person once."""
