@@ -1,6 +1,6 @@
 """What is handed in is judged here, for all files that take rules."""
 
-from hushnotice.errors import BadMoment, BadPerson, BadRules
+from hushnotice.errors import BadBell, BadDevice, BadHears, BadMoment, BadNotices, BadPerson, BadRules
 
 MOST_PERSONS = 6
 MANY_PARTS = 5
@@ -12,16 +12,25 @@ LAST_KIND = 7
 MOST_SPAN = 12
 MOST_WAIT = 24
 LAST_MOMENT = 1000000
+MOST_NOTICES = 30
+LAST_RANK = 3
+LAST_BORN = 300
+MOST_HEARS = 60
+LAST_HEAR = 600
+MOST_DEVICES = 4
 
 NO_PART = -1
 
 
+def is_number(x):
+    """Tell whether x is a whole number."""
+    # True and False would pass as 1 and 0 otherwise.
+    return isinstance(x, int) and not isinstance(x, bool)
+
+
 def is_whole(x, low, high):
     """Tell whether x is a whole number from low to high."""
-    # True and False would pass as 1 and 0 otherwise.
-    if isinstance(x, bool) or not isinstance(x, int):
-        return False
-    return low <= x <= high
+    return is_number(x) and low <= x <= high
 
 
 def is_tuple_of(x, many):
@@ -99,7 +108,74 @@ def refuse_bad_person(rules, person):
         raise BadPerson("no person of these rules")
 
 
-def refuse_bad_moment(moment):
-    """Refuse what is no moment, by BadMoment."""
-    if not is_whole(moment, 0, LAST_MOMENT):
+def refuse_bad_moment(moment, last=LAST_MOMENT):
+    """Refuse what is no moment up to the last one, by BadMoment."""
+    if not is_whole(moment, 0, last):
         raise BadMoment("no moment")
+
+
+def can_be_notice(row, many_persons, earliest):
+    """Tell whether this can be a notice, born at this moment at the earliest."""
+    if not is_tuple_of(row, 4):
+        return False
+    person, rank, kind, born = row
+    fits = [
+        is_whole(person, 0, many_persons - 1),
+        is_whole(rank, 0, LAST_RANK),
+        is_whole(kind, 0, LAST_KIND),
+        is_whole(born, earliest, LAST_BORN),
+    ]
+    return all(fits)
+
+
+def refuse_bad_notices(rules, notices):
+    """Refuse what can't be notices to persons of rules that were judged ahead, by BadNotices."""
+    if not isinstance(notices, list):
+        raise BadNotices(0)
+    earliest = 0
+    for number, row in enumerate(notices):
+        if number == MOST_NOTICES or not can_be_notice(row, len(rules), earliest):
+            raise BadNotices(number)
+        earliest = row[3]
+
+
+def can_be_hear(row, many_persons, many_notices, earliest):
+    """Tell whether this can be a hear, at this moment at the earliest."""
+    if not is_tuple_of(row, 3):
+        return False
+    moment, person, notice = row
+    fits = [
+        is_whole(moment, earliest, LAST_HEAR),
+        is_whole(person, 0, many_persons - 1),
+        is_whole(notice, 0, many_notices - 1),
+    ]
+    return all(fits)
+
+
+def refuse_bad_hears(rules, notices, hears):
+    """Refuse what can't be hears of notices that were judged ahead, by BadHears."""
+    if not isinstance(hears, (list, tuple)):
+        raise BadHears(0)
+    earliest = 0
+    for number, row in enumerate(hears):
+        if number == MOST_HEARS or not can_be_hear(row, len(rules), len(notices), earliest):
+            raise BadHears(number)
+        earliest = row[0]
+
+
+def refuse_bad_many(many):
+    """Refuse what is no number of devices that a desk can have, by BadDevice."""
+    if not is_whole(many, 1, MOST_DEVICES):
+        raise BadDevice("no desk has so many devices")
+
+
+def refuse_bad_device(device, many):
+    """Refuse what is none of so many devices, by BadDevice."""
+    if not is_whole(device, 0, many - 1):
+        raise BadDevice("no such device")
+
+
+def refuse_bad_bell(bell, many):
+    """Refuse what is none of so many bells, by BadBell."""
+    if not is_whole(bell, 0, many - 1):
+        raise BadBell("no bell of this desk")

@@ -25,6 +25,15 @@ def judged_hours(rules, person):
     return hushed_hours(rules[person][0])
 
 
+def first_free(hours, moment):
+    """Tell the first moment from this one on that isn't hushed, None if each is."""
+    # Each day is like the one ahead, so one day of moments tells all.
+    for later in range(moment, moment + DAY):
+        if not hours[later % DAY]:
+            return later
+    return None
+
+
 def hushed_ahead_of(hours, moment):
     """Tell how many moments from 0 on and ahead of this one are hushed."""
     return moment // DAY * sum(hours) + sum(hours[:moment % DAY])
@@ -41,11 +50,7 @@ def free_from(rules, person, moment):
     """Tell the first moment from this one on at which a person isn't hushed, None if it always is."""
     hours = judged_hours(rules, person)
     refuse_bad_moment(moment)
-    # Each day is like the one ahead, so one day of moments tells all.
-    for later in range(moment, moment + DAY):
-        if not hours[later % DAY]:
-            return later
-    return None
+    return first_free(hours, moment)
 
 
 def hushed_between(rules, person, begin, end):

@@ -5,6 +5,8 @@ import unittest
 
 from hushnotice import rules as hours
 from hushnotice.errors import BadRules
+from hushnotice.notes import written
+from hushnotice.walk import chain, walked, wheeled
 from tests.helps import person, refused
 
 FINE = person()
@@ -12,6 +14,10 @@ CALLS = (
     (hours.is_hushed, (0, 0)),
     (hours.free_from, (0, 0)),
     (hours.hushed_between, (0, 0, 5)),
+    (walked, ([],)),
+    (wheeled, ([],)),
+    (chain, (0,)),
+    (written, ([],)),
 )
 # Of each kind that a refusal may get, none being a whole number, a tuple or None.
 NEVER = ("", "1", "abcde", [], [1], [1, 2], True, False)
